@@ -1,0 +1,1 @@
+"""Things moved by many hands: one tree, kept at several desks."""

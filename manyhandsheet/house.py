@@ -15,15 +15,13 @@ CALL_MOVE = 2
 CALL_TELL = 3
 CALL_MEET = 4
 CALL_TREE = 5
-CALL_BIN = 6
 
 # How many numbers follow a call's own number.
 NUMBERS_OF_CALL = {1: 1, 2: 4, 3: 2, 4: 2, 5: 1, 6: 1}
 
 
+# A stamp is a pair of count and desk, because pairs are compared as stamps are.
 class Deed:
-    """A stamp is a pair of count and desk: pairs are compared as stamps are."""
-
     def __init__(self, stamp, thing, under, label):
         self.stamp = stamp
         self.thing = thing
@@ -31,9 +29,8 @@ class Deed:
         self.label = label
 
 
+# Each desk's numbers of deeds are kept with the earliest stamp first, so that its tree can be made as they stand.
 class House:
-    """All deeds by their numbers, and for each desk the numbers that it knows, the earliest stamp first."""
-
     def __init__(self):
         self.done = []
         self.known = [[]]
@@ -119,11 +116,11 @@ def answer_call(house, call, numbers):
         return house.meet(numbers[0], numbers[1])
     if call == CALL_TREE:
         return house.show(numbers[0], ROOT)
+    # The one call that is left is bin.
     return house.show(numbers[0], BIN)
 
 
 def answers(calls):
-    """For each call, in order, how many numbers are answered, and then these."""
     house = House()
     answered = []
     at = 0

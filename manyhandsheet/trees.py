@@ -17,8 +17,8 @@ def is_there(tree, thing):
     return thing == ROOT or thing == BIN or thing in tree
 
 
+# Above a thing is the thing itself too, so that one question finds both kinds of circle.
 def is_above(tree, upper, thing):
-    """Whether upper is the thing itself, or the thing is within upper."""
     step = thing
     while step != upper and step in tree:
         step = tree[step][0]
@@ -26,7 +26,6 @@ def is_above(tree, upper, thing):
 
 
 def what_comes(tree, thing, under):
-    """What comes of a deed that is done when the tree is like this."""
     if not is_there(tree, under):
         return NOT_THERE
     if is_above(tree, thing, under):
@@ -34,8 +33,8 @@ def what_comes(tree, thing, under):
     return PUT
 
 
+# The deeds have to come with the earliest stamp first: the tree is the same at all desks only in that order.
 def tree_of(deeds):
-    """The tree of these deeds, which come with the earliest stamp first."""
     tree = {}
     for deed in deeds:
         if what_comes(tree, deed.thing, deed.under) == PUT:
@@ -43,15 +42,13 @@ def tree_of(deeds):
     return tree
 
 
+# The greatest number comes first, because all_within takes what waits from the end.
 def right_under(tree, top):
-    """The things right under top, the greatest number first."""
     return [thing for thing in sorted(tree, reverse=True) if tree[thing][0] == top]
 
 
 def all_within(tree, top):
-    """A row (thing, how deep, label) for each thing within top, each followed by all within it."""
     rows = []
-    # What waits is taken from the end, so the greatest number has to wait longest.
     waiting = [(thing, 1) for thing in right_under(tree, top)]
     while len(waiting) > 0:
         step = waiting.pop()

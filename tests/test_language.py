@@ -67,6 +67,10 @@ class Language(unittest.TestCase):
                 self.assertIsNone(node.returns, where)
             if isinstance(node, ast.arguments):
                 self.assertEqual((node.vararg, node.kwarg, node.kwonlyargs), (None, None, []), where)
+            if isinstance(node, ast.Module):
+                rest = node.body[1:] if ast.get_docstring(node) else node.body
+                bare = [inner for part in rest for inner in ast.walk(part) if isinstance(inner, ast.Expr)]
+                self.assertTrue(all(isinstance(inner.value, ast.Call) for inner in bare), where)
             if isinstance(node, ast.Assign):
                 self.assertEqual(len(node.targets), 1, where)
             if isinstance(node, (ast.For, ast.While)):

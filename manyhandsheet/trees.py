@@ -17,29 +17,46 @@ def is_there(tree, thing):
     return thing == ROOT or thing == BIN or thing in tree
 
 
-# Above a thing is the thing itself too, so that one question finds both kinds of circle.
-def is_above(tree, upper, thing):
+def all_above(tree, thing):
+    found = [thing]
     step = thing
-    while step != upper and step in tree:
+    while step in tree:
         step = tree[step][0]
-    return step == upper
+        found.append(step)
+    return found
 
 
 def what_comes(tree, thing, under):
     if not is_there(tree, under):
         return NOT_THERE
-    if is_above(tree, thing, under):
+    # Above a thing is the thing itself too, so this one question finds both kinds of circle.
+    if thing in all_above(tree, under):
         return WITHIN_ITSELF
     return PUT
 
 
-# The deeds have to come with the earliest stamp first: the tree is the same at all desks only in that order.
+def do_deed(tree, deed):
+    comes = what_comes(tree, deed.thing, deed.under)
+    if comes == PUT:
+        tree[deed.thing] = (deed.under, deed.label)
+    return comes
+
+
+# The deeds have to come with the earliest stamp first, here and in what_comes_of_each: the tree, and what comes of
+# each deed, are the same at all desks only in that order.
 def tree_of(deeds):
     tree = {}
     for deed in deeds:
-        if what_comes(tree, deed.thing, deed.under) == PUT:
-            tree[deed.thing] = (deed.under, deed.label)
+        do_deed(tree, deed)
     return tree
+
+
+def what_comes_of_each(deeds):
+    tree = {}
+    each = []
+    for deed in deeds:
+        each.append(do_deed(tree, deed))
+    return each
 
 
 # The greatest number comes first, because all_within takes what waits from the end.

@@ -3,6 +3,8 @@
 Here each thing holds a list of what is right under it, and all is worked out anew for each call.
 """
 
+CALLS = "begin move tell meet tree bin line deeds_of same would moves".split()
+
 
 class Thing:
     def __init__(self, number):
@@ -45,8 +47,7 @@ class Model:
         return there, came
 
     def answer(self, call):
-        name = {1: "begin", 2: "move", 3: "tell", 4: "meet", 5: "tree", 6: "bin"}[call[0]]
-        return getattr(self, name)(*call[1:])
+        return getattr(self, CALLS[call[0] - 1])(*call[1:])
 
     def begin(self, desks):
         if desks not in range(1, 9):
@@ -98,6 +99,50 @@ class Model:
 
     def bin(self, desk):
         return self.show(desk, 1)
+
+    def line(self, desk, thing):
+        if desk not in range(len(self.desks)):
+            return [-2]
+        there = self.replay(self.desks[desk])[0]
+        if thing not in there:
+            return [-3]
+        # Whatever holds more is further up.
+        above = [upper for upper in there.values() if upper.holds(there[thing])]
+        above.sort(key=lambda upper: len(upper.rows()))
+        return [len(above)] + [upper.number for upper in above]
+
+    def deeds_of(self, desk):
+        if desk not in range(len(self.desks)):
+            return [-2]
+        answer = [len(self.desks[desk])]
+        for number, came in self.replay(self.desks[desk])[1].items():
+            answer += [number, came]
+        return answer
+
+    def same(self, desk, other):
+        if desk not in range(len(self.desks)) or other not in range(len(self.desks)):
+            return [-2]
+        shown = [(self.tree(which), self.bin(which)) for which in (desk, other)]
+        return [int(self.desks[desk] == self.desks[other]), int(shown[0] == shown[1])]
+
+    def would(self, desk, thing, under):
+        if desk not in range(len(self.desks)):
+            return [-2]
+        if thing not in range(2, 64) or under not in range(64):
+            return [-1]
+        # Done in a copy of this house, without the bound of 100 deeds.
+        other = Model()
+        count = 1 + max([0] + [self.deeds[known][0] for known in self.desks[desk]])
+        other.deeds = self.deeds + [(count, desk, thing, under, 0)]
+        number = len(self.deeds)
+        return [other.replay(self.desks[desk] | {number})[1][number]]
+
+    def moves(self, desk, thing):
+        if desk not in range(len(self.desks)):
+            return [-2]
+        came = self.replay(self.desks[desk])[1]
+        put = [number for number in came if came[number] == 1 and self.deeds[number][2] == thing]
+        return [len(put)] + put
 
 
 def model_answers(calls):

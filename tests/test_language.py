@@ -38,6 +38,18 @@ def nodes():
             yield path, node
 
 
+def top_names(path, imports=True):
+    bound = []
+    for node in ast.parse(path.read_text()).body:
+        if isinstance(node, (ast.FunctionDef, ast.ClassDef)):
+            bound.append(node.name)
+        if isinstance(node, ast.Assign):
+            bound.append(node.targets[0].id)
+        if isinstance(node, ast.ImportFrom) and imports:
+            bound += [name.name for name in node.names]
+    return bound
+
+
 class Language(unittest.TestCase):
     def test_only_plain_files(self):
         lying = [path.name for path in PACKAGE.iterdir() if path.name != "__pycache__"]
@@ -92,6 +104,29 @@ class Language(unittest.TestCase):
                 self.assertFalse(node.id.startswith("_"), node.id)
             if isinstance(node, ast.Call) and isinstance(node.func, ast.Attribute):
                 self.assertIn(node.func.attr, METHODS + own, path)
+
+    def test_each_name_once_at_the_top(self):
+        for path in package_files():
+            bound = top_names(path)
+            self.assertEqual(len(bound), len(set(bound)), path)
+
+    def test_no_local_is_called_like_a_class_or_an_import(self):
+        for path in package_files():
+            body = ast.parse(path.read_text())
+            taken = [node.name for node in ast.walk(body) if isinstance(node, (ast.ClassDef, ast.alias))]
+            held = [node.arg for node in ast.walk(body) if isinstance(node, ast.arg)]
+            stored = [node for node in ast.walk(body) if isinstance(node, ast.Name) and isinstance(node.ctx, ast.Store)]
+            held += [node.id for node in stored]
+            self.assertEqual(set(taken) & set(held), set(), path)
+
+    def test_imports_are_from_the_file_that_defines_the_name(self):
+        for path, node in nodes():
+            if isinstance(node, ast.ImportFrom):
+                source = PACKAGE / (node.module.split(".")[1] + ".py")
+                defined = top_names(source, imports=False)
+                for name in node.names:
+                    self.assertIn(name.name, defined, path)
+                    self.assertIsNone(name.asname, path)
 
     def test_no_name_is_a_method_and_a_value(self):
         methods = []

@@ -1,19 +1,20 @@
-"""Points 1 to 4 of the document's promises, as far as the calls 1 to 6 show them."""
+"""Points 1 to 4 of the document's promises, as the calls show them."""
 
 import itertools
 import unittest
 
-from asking import ask, begin, bin_of, last, meet, move, rows, some_calls, tell, tree
+from asking import (
+    ask, begin, bin_of, deeds_of, last, line, meet, move, moves, pairs, rows, same, some_calls, tell, tree)
 
 
 class SameDeedsSameTree(unittest.TestCase):
     def test_told_in_every_order(self):
         deeds = [move(0, 2, 0, 1), move(0, 3, 2, 2), move(1, 3, 0, 3), move(1, 2, 3, 4), move(2, 2, 1, 5)]
-        seen = []
         for order in itertools.permutations(range(5)):
             calls = [begin(4), *deeds, *[tell(deed, 3) for deed in order]]
-            seen.append(ask(*calls, tree(3), bin_of(3))[-2:])
-        self.assertEqual(seen, [[[0], [2, 2, 1, 5, 3, 2, 2]]] * 120)
+            seen = ask(*calls, tree(3), bin_of(3), deeds_of(3))[-3:]
+            # By stamps: 0 (1, 0), 2 (1, 1), 4 (1, 2), 1 (2, 0), 3 (2, 1).
+            self.assertEqual(seen, [[0], [2, 2, 1, 5, 3, 2, 2], [5, 0, 1, 2, 1, 4, 1, 1, 1, 3, 3]], order)
 
     def test_told_forwards_backwards_doubled_or_by_meeting(self):
         for seed in range(40):
@@ -28,8 +29,19 @@ class SameDeedsSameTree(unittest.TestCase):
                 [meet(desk, 6) for desk in reversed(range(6))],
             ]
             calls[0] = begin(7)
-            seen = [ask(*calls, *way, tree(6), bin_of(6))[-2:] for way in ways]
-            self.assertEqual(seen, [seen[0]] * len(ways), seed)
+            shown = [tree(6), bin_of(6), deeds_of(6), *[moves(6, thing) for thing in range(12)]]
+            seen = [ask(*calls, *way, *shown)[-len(shown):] for way in ways]
+            self.assertTrue(all(one == seen[0] for one in seen), seed)
+
+    def test_whoever_has_met_all_has_the_same(self):
+        for seed in range(20):
+            calls = some_calls(seed, 5, 40, 40, things=9)
+            calls += [meet(0, desk) for desk in (1, 2, 3, 4)] + [meet(desk, 0) for desk in (1, 2, 3, 4)]
+            for shown in (tree, bin_of, deeds_of):
+                asked = ask(*calls, *[shown(desk) for desk in range(5)])
+                self.assertTrue(all(answer == asked[-1] for answer in asked[-5:]), seed)
+            asked = ask(*calls, *[same(desk, other) for desk in range(5) for other in range(5)])
+            self.assertEqual(asked[-25:], [[1, 1]] * 25)
 
     def test_a_and_b_put_under_one_another(self):
         calls = [
@@ -66,6 +78,23 @@ class AlwaysATree(unittest.TestCase):
             self.assertTrue(1 <= row[1] <= before + 1)
             before = row[1]
 
+    def test_each_line_ends_at_the_root_or_the_bin(self):
+        for seed in range(40):
+            calls = some_calls(seed, 4, 50, 30, things=8)
+            for desk in range(4):
+                asked = ask(*calls, tree(desk), bin_of(desk), *[line(desk, thing) for thing in range(64)])
+                tops = {thing: top for top in (0, 1) for thing, _, _ in rows(asked[top - 66])}
+                depths = {thing: deep for top in (0, 1) for thing, deep, _ in rows(asked[top - 66])}
+                for thing in range(2, 64):
+                    above = asked[thing - 64]
+                    if thing not in tops:
+                        self.assertEqual(above, [-3])
+                        continue
+                    self.assertEqual((above[1], above[-1]), (thing, tops[thing]))
+                    self.assertEqual(above[0], len(above) - 1)
+                    self.assertEqual(above[0], depths[thing] + 1)
+                    self.assertEqual(len(set(above[1:])), above[0])
+
     def test_what_is_there_stays_there(self):
         for seed in range(20):
             calls = [begin(1)] + some_calls(seed, 1, 60, 0)[1:]
@@ -92,7 +121,52 @@ class LastDeedByStamps(unittest.TestCase):
         self.assertEqual(last(*calls, tree(0)), [2, 2, 1, 1, 3, 2, 2])
 
 
+    def test_line_tree_and_bin_say_what_the_last_of_its_moves_says(self):
+        for seed in range(40):
+            calls = some_calls(seed, 3, 40, 30, things=10)
+            done = [call for call in calls if call[0] == 2]
+            for desk in range(3):
+                shown = [tree(desk), bin_of(desk)]
+                for thing in range(2, 64):
+                    shown += [line(desk, thing), moves(desk, thing)]
+                asked = ask(*calls, *shown)[len(calls):]
+                places = {**self.places(rows(asked[0]), 0), **self.places(rows(asked[1]), 1)}
+                for thing in range(2, 64):
+                    above, put = asked[2 * thing - 2:2 * thing]
+                    if thing not in places:
+                        self.assertEqual((above, put), ([-3], [0]))
+                        continue
+                    under, label = done[put[-1]][3:]
+                    self.assertEqual(done[put[-1]][2], thing)
+                    self.assertEqual(places[thing], (under, label))
+                    self.assertEqual(above[2], under)
+
+    def places(self, found, top):
+        """What each thing is under, and its label, read off the rows of tree or bin."""
+        place = {}
+        path = [top]
+        for thing, deep, label in found:
+            path[deep:] = [thing]
+            place[thing] = (path[deep - 1], label)
+        return place
+
+
 class OnceAnEarlierDeedIsKnown(unittest.TestCase):
+    def test_all_that_can_come_of_a_deed_changes(self):
+        changes = set()
+        for seed in range(80):
+            calls = some_calls(seed, 3, 20, 20, things=5)
+            before = dict(pairs(last(*calls, deeds_of(0))))
+            for deed in range(20):
+                told = ask(*calls, tell(deed, 0), deeds_of(0))
+                after = dict(pairs(told[-1]))
+                changed = [(before[known], after[known]) for known in before if before[known] != after[known]]
+                changes.update(changed)
+                # Only a deed that was not known, with others behind it, can change what came of these.
+                self.assertLessEqual(len(changed), told[-2][1])
+        # A thing that is there stays there, whatever earlier deed becomes known.
+        self.assertEqual(changes, {(2, 1), (2, 3), (3, 1), (1, 3)})
+
     def test_what_was_not_there_is_there_then(self):
         calls = [begin(2), move(0, 2, 0, 1), move(1, 3, 2, 2)]
         self.assertEqual(ask(*calls, tree(1))[2:], [[1, 1, 2], [0]])
